@@ -16,6 +16,11 @@ def is_number(value):
     return is_integer(value) and value >= 0
 
 
+def is_level(value):
+    """Whether any value is a level of a trace that is there: an integer from 1 on."""
+    return is_integer(value) and value >= 1
+
+
 def is_name(value):
     """Whether any value is a name of a step, a place or a trace."""
     if not isinstance(value, str) or not 1 <= len(value) <= LONGEST_NAME:

@@ -23,6 +23,27 @@ def pair_told(line):
     return words[1], words[2]
 
 
+def trace_told(line):
+    """The trace, the place and the level that a line tells behind the word trace."""
+    return told_behind("trace", 2, line)
+
+
+def limit_told(line):
+    """The trace, the step, the place and the level that a line tells behind the word limit."""
+    return told_behind("limit", 3, line)
+
+
+def told_behind(word, many, line):
+    """As many names, and a number behind them, that a line tells behind this word."""
+    words = line.split(" ")
+    if len(words) != many + 2 or words[0] != word or not all([is_name(name) for name in words[1:-1]]):
+        return None
+    level = number_told(words[-1])
+    if level is None:
+        return None
+    return (*words[1:-1], level)
+
+
 def rows_told(lines, at, told):
     """What each line from number at on tells by this function, up to the first one that tells nothing."""
     rows = []

@@ -20,7 +20,7 @@ class Work:
         if not is_sequence(ahead) or not all([is_pair_of(names, pair) for pair in ahead]):
             raise InvalidWork("ahead")
         heads = heads_by(names, ahead)
-        if any([has(head, at) for at, head in enumerate(heads)]):
+        if has_ring(heads):
             raise InvalidWork("ahead")
         self.steps = tuple(steps)
         self.ahead = tuple(ahead)
@@ -35,7 +35,7 @@ class Work:
         told, pairs, behind = work_told(lines, 0)
         if behind < len(lines):
             raise InvalidText(behind)
-        return cls([Step(name, places, arrows) for name, places, arrows in told], pairs)
+        return cls(steps_made(told), pairs)
 
     def step(self, name):
         """The step of this name."""
@@ -88,6 +88,11 @@ def work_told(lines, at):
     return told, pairs, at + len(told) + len(pairs)
 
 
+def steps_made(told):
+    """The steps of these names, places and arrows."""
+    return [Step(name, places, arrows) for name, places, arrows in told]
+
+
 def number_of(work, name):
     """The number of the step of this name in the work."""
     if name not in work.names:
@@ -106,12 +111,23 @@ def heads_by(names, ahead):
     for one, other in ahead:
         at = names.index(other)
         heads[at] = heads[at] | (1 << names.index(one))
+    return tuple(joined(heads))
+
+
+def joined(heads):
+    """For each step, as bits, those ahead of it by these heads, one behind another."""
+    wider = list(heads)
     # Behind round k all that is ahead by way of the steps up to number k is known.
-    for middle in range(len(names)):
-        for at in range(len(names)):
-            if has(heads[at], middle):
-                heads[at] = heads[at] | heads[middle]
-    return tuple(heads)
+    for middle in range(len(wider)):
+        for at in range(len(wider)):
+            if has(wider[at], middle):
+                wider[at] = wider[at] | wider[middle]
+    return wider
+
+
+def has_ring(heads):
+    """Whether some step stands ahead of itself by these heads, which are joined."""
+    return any([has(head, at) for at, head in enumerate(heads)])
 
 
 def can_be_next(work, done, at):

@@ -1,8 +1,10 @@
 """What several tests use: the document's example, any values, and orders found by trying them all."""
 
+import random
 from itertools import permutations
 
 from plateways.errors import InvalidText, NoStep
+from plateways.kitchens import Kitchen
 from plateways.steps import Step
 from plateways.works import Work
 
@@ -16,9 +18,21 @@ LINES = (
     "ahead cut serve",
 )
 
+KITCHEN_LINES = (*LINES, "trace egg bowl 2", "trace nut nuts 5", "limit nut serve plate 3")
+WAY = ("nuts", ("chop", "board"), ("cut", "plate"))
+
 
 def example():
     return Work.read("\n".join(LINES))
+
+
+def kitchen_example():
+    return Kitchen.read("\n".join(KITCHEN_LINES))
+
+
+def fenced_example():
+    """The work of the example with the fences by which the board is washed between the nuts and the bread."""
+    return example().fenced([("chop", "wash"), ("wash", "cut")])
 
 
 def plain(names, pairs=()):
@@ -40,11 +54,13 @@ def any_values():
         0, 1, -1, 5, 10 ** 18, True, False, None,
         "", "a", "cut", "board", "Cut", "c t", "cut\n", "at", "go", "ahead", "trace", "limit", "work",
         "toolong", "caf\u00e9", "\u0430", "a1", "_",
-        step, Work([step]), InvalidText(0), NoStep("cut"),
+        step, Work([step]), Kitchen(Work([step])), InvalidText(0), NoStep("cut"),
         (), [], ("cut",), ["cut"], ("cut", "board"), ["cut", "board"], ("cut", "cut"),
         ("board", "board", 0), ["board", "board", 0], [("board", "board", 0)], (("board", "board", True),),
         [("cut", "wash")], (("cut", "wash", "chop"),), [["cut", "wash"]], [step], (step, step), [None], (0,), ([],),
-        [[("cut",)]], nested(8), [nested(7)],
+        [[("cut",)]], nested(8), [nested(7)], ("board", ("cut", "board")), ("board", ["cut", "board"]), ("Board",),
+        (("cut", "cut", "join", (0, 0)),), (("cut", "wash", "work", ()),), (("cut", "cut", "work", [[()]]),),
+        [("nut", "board", 3)], [("nut", "cut", "board", 3)], (("nut", "board", 0),), (("nut", "cut", "board", True),),
     ]
 
 
@@ -55,3 +71,101 @@ def orders(names, pairs):
         if all(row.index(one) < row.index(other) for one, other in pairs):
             found.append(row)
     return found
+
+
+def some_works(seed, many, most=5):
+    """Works of a few steps over a few places, with arrows of many kinds."""
+    chance = random.Random(seed)
+    for _ in range(many):
+        names = list("abcdefg"[:chance.randint(1, most)])
+        places = ["pan", "pot", "dish", "sink"][:chance.randint(1, 4)]
+        steps = [some_step(chance, name, places) for name in names]
+        rank = list(names)
+        chance.shuffle(rank)
+        pairs = chance.randint(0, len(names)) if len(names) > 1 else 0
+        chance.shuffle(steps)
+        yield Work(steps, [tuple(sorted(chance.sample(names, 2), key=rank.index)) for _ in range(pairs)])
+
+
+def some_step(chance, name, places):
+    touched = chance.sample(places, chance.randint(1, min(3, len(places))))
+    arrows = {}
+    for place in touched:
+        if chance.random() < 0.6:
+            arrows[place, place] = chance.choice((0, 0, 1, 3))
+    for _ in range(chance.randint(0, 3)):
+        arrows[chance.choice(touched), chance.choice(touched)] = chance.choice((0, 1, 2, 4))
+    return Step(name, touched, [(start, end, less) for (start, end), less in arrows.items()])
+
+
+def some_kitchens(seed, many, most=5):
+    """Kitchens of such works, with a few traces and limits."""
+    chance = random.Random(seed)
+    for work in some_works(seed + 1, many, most):
+        levels = {}
+        for _ in range(chance.randint(0, 4)):
+            levels[chance.choice(("nut", "egg", "soy")), chance.choice((*work.places, "moon"))] = chance.randint(1, 6)
+        limits = []
+        for _ in range(chance.randint(0, 3)):
+            step = chance.choice(work.steps)
+            limits.append((chance.choice(("nut", "egg", "soy")), step.name, chance.choice(step.places), chance.randint(1, 4)))
+        yield Kitchen(work, [(trace, place, level) for (trace, place), level in levels.items()], limits)
+
+
+def all_ways(work):
+    """All ways of the work from the places that are touched, and one from a place that is not."""
+    ways = [(place,) for place in (*work.places, "moon")]
+    for way in ways:
+        place = way[-1][1] if len(way) > 1 else way[0]
+        done = [name for name, _ in way[1:]]
+        for step in work.steps:
+            if step.name not in done:
+                ways.extend([(*way, (step.name, end)) for start, end, _ in step.arrows if start == place])
+    return ways
+
+
+def lasts(work, way):
+    """None, and all steps that can be the last one of the way."""
+    place = way[-1][1] if len(way) > 1 else way[0]
+    done = [name for name, _ in way[1:]]
+    return [None, *[step.name for step in work.steps if place in step.places and step.name not in done]]
+
+
+def ways_and_lasts(work):
+    return [(way, last) for way in all_ways(work) for last in lasts(work, way)]
+
+
+def row_and_places(way, last):
+    row = [name for name, _ in way[1:]] + ([] if last is None else [last])
+    return row, [way[0]] + [place for _, place in way[1:]]
+
+
+def happens(work, way, last, order):
+    """Whether a way happens in an order, looked at plainly."""
+    row, places = row_and_places(way, last)
+    spots = [order.index(name) for name in row]
+    if spots != sorted(spots):
+        return False
+    touched = {step.name: step.places for step in work.steps}
+    if row and any(places[0] in touched[name] for name in order[:spots[0]]):
+        return False
+    return not any(place in touched[name] for place, one, other in zip(places[1:], spots, spots[1:])
+                   for name in order[one + 1:other])
+
+
+def closed_plainly(work, way, last):
+    """All pairs that hold, by going over the rules till nothing is new."""
+    row, places = row_and_places(way, last)
+    touched = {step.name: step.places for step in work.steps}
+    pairs = set(work.ahead) | set(zip(row, row[1:]))
+    if row:
+        pairs |= {(row[0], name) for name in work.names if name != row[0] and places[0] in touched[name]}
+    many = -1
+    while many < len(pairs):
+        many = len(pairs)
+        pairs |= {(one, last_one) for one, middle in pairs for other, last_one in pairs if middle == other}
+        for brings, takes, place in zip(row, row[1:], places[1:]):
+            others = [name for name in work.names if place in touched[name] and name not in (brings, takes)]
+            pairs |= {(name, brings) for name in others if (name, takes) in pairs}
+            pairs |= {(takes, name) for name in others if (brings, name) in pairs}
+    return tuple(sorted(pairs))

@@ -24,6 +24,13 @@ INTERFACE = {
         "Work": ("steps", "ahead=()"), "is_beginning": ("work", "value"), "is_order": ("work", "value"),
         "many_orders": ("work",),
     },
+    "kitchens": {"Kitchen": ("work", "traces=()", "limits=()")},
+    "cooking": {name: ("kitchen", "beginning") for name in ("levels", "reached", "met")},
+    "ways": {
+        "loss": ("work", "way"), "closed": ("work", "way", "last=None"), "can_happen": ("work", "way", "last=None"),
+        "order_of": ("work", "way", "last=None"),
+    },
+    "reasons": {"reason": ("work", "way", "last=None"), "reason_holds": ("work", "way", "last", "value")},
 }
 METHODS = {
     ("steps", "Step"): {
@@ -32,6 +39,9 @@ METHODS = {
     ("works", "Work"): {
         "step": ("self", "name"), "is_ahead": ("self", "one", "other"), "fenced": ("self", "pairs"),
         "washed": ("self", "pairs"), "read": ("text",), "__len__": None, "__eq__": None, "__str__": None,
+    },
+    ("kitchens", "Kitchen"): {
+        "with_work": ("self", "work"), "read": ("text",), "__eq__": None, "__str__": None,
     },
 }
 
