@@ -56,3 +56,11 @@ def handovers(way, last):
     """For neighbouring steps of a way: the one that brings the grain, the one that takes it on, and the place."""
     row = row_of(way, last)
     return list(zip(row, row[1:], places_of(way)[1:]))
+
+
+def loss_of(work, way):
+    """The sum of the losses of the arrows of a way."""
+    total = 0
+    for (name, end), start in zip(way[1:], places_of(way)):
+        total += work.step(name).loss(start, end)
+    return total

@@ -1,7 +1,7 @@
 """Kitchens: a work, the traces that are there at first, and the limits that they should not reach."""
 
-from plateways.basics import is_level, is_name, is_sequence
-from plateways.errors import InvalidKitchen, InvalidText
+from plateways.basics import is_level, is_name, is_number, is_sequence
+from plateways.errors import InvalidKitchen, InvalidText, NoLimit
 from plateways.texts import limit_told, rows_told, trace_told
 from plateways.works import Work, steps_made, work_told
 
@@ -68,6 +68,13 @@ def is_limit(value, places):
     if not is_name(value[0]) or not is_name(value[1]) or not is_level(value[3]):
         return False
     return value[2] in places.get(value[1], ())
+
+
+def limit_of(limits, at):
+    """The limit of this number."""
+    if not is_number(at) or at >= len(limits):
+        raise NoLimit(at)
+    return limits[at]
 
 
 def end_told(lines, at):

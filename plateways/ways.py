@@ -1,19 +1,14 @@
 """Ways: how a grain goes from place to place by steps, and whether it can in some order."""
 
 from plateways.closing import closed_heads
-from plateways.hops import check_way, row_of
+from plateways.hops import check_way, loss_of, row_of
 from plateways.works import has, has_ring
 
 
 def loss(work, way):
     """The sum of the losses of the arrows of the way."""
     check_way(work, way)
-    total = 0
-    place = way[0]
-    for name, end in way[1:]:
-        total += work.step(name).loss(place, end)
-        place = end
-    return total
+    return loss_of(work, way)
 
 
 def closed(work, way, last=None):

@@ -176,3 +176,13 @@ def counts_longer(work, counts):
                 more = done | (1 << at)
                 longer[more] = longer.get(more, 0) + many
     return longer
+
+
+def all_done(work):
+    """All steps that can be done at some time, as bits, each time's behind those of the times ahead of it."""
+    counts = {0: 1}
+    found = [0]
+    for _ in work.steps:
+        counts = counts_longer(work, counts)
+        found.extend(list(counts))
+    return found

@@ -112,6 +112,73 @@ def some_kitchens(seed, many, most=5):
         yield Kitchen(work, [(trace, place, level) for (trace, place), level in levels.items()], limits)
 
 
+def thick_kitchens(seed, many, most=5):
+    """Kitchens in which traces often come far: few losses, traces where steps begin, and three limits or fewer."""
+    chance = random.Random(seed)
+    for _ in range(many):
+        names = chance.sample("abcdefgh", chance.randint(min(2, most), most))
+        places = ["pan", "pot", "dish", "sink"][:chance.randint(2, 4)]
+        steps = [thick_step(chance, name, places) for name in names]
+        rank = chance.sample(names, len(names))
+        pairs = [tuple(sorted(chance.sample(names, 2), key=rank.index)) for _ in range(chance.randint(0, len(names) - 1))]
+        work = Work(steps, pairs)
+        levels = {(trace, chance.choice(places)): chance.randint(2, 7) for trace in ("nut", "nut", "egg")}
+        traces = [(trace, place, level) for (trace, place), level in levels.items()]
+        limits = []
+        for _ in range(chance.randint(1, 3)):
+            step = chance.choice(steps)
+            limits.append((chance.choice(("nut", "nut", "egg")), step.name, chance.choice(step.places), chance.randint(1, 5)))
+        yield Kitchen(work, traces, limits)
+
+
+def thick_step(chance, name, places):
+    touched = chance.sample(places, chance.randint(1, min(4, len(places))))
+    arrows = {(place, place): chance.choice((0, 0, 0, 1)) for place in touched if chance.random() < 0.5}
+    for _ in range(chance.randint(1, 2)):
+        arrows[chance.choice(touched), chance.choice(touched)] = chance.choice((0, 0, 1, 2))
+    return Step(name, touched, [(start, end, less) for (start, end), less in arrows.items()])
+
+
+def done_plainly(step, now):
+    """The levels behind a step, looked at plainly, a trace and a place at a time."""
+    behind = {}
+    for trace, place in sorted({(trace, place) for trace, _ in now for place in (*step.places, *[spot for _, spot in now])}):
+        if place in step.places:
+            coming = [now.get((trace, start), 0) - less for start, end, less in step.arrows if end == place]
+        else:
+            coming = [now.get((trace, place), 0)]
+        if max([0, *coming]) >= 1:
+            behind[trace, place] = max(coming)
+    return behind
+
+
+def cooked_plainly(kitchen):
+    """The levels behind each beginning of the work, cooked step by step."""
+    behind = {(): {(trace, place): level for trace, place, level in kitchen.traces}}
+    for row in orders(kitchen.work.names, kitchen.work.ahead):
+        for many, name in enumerate(row):
+            if row[:many + 1] not in behind:
+                behind[row[:many + 1]] = done_plainly(kitchen.work.step(name), behind[row[:many]])
+    return behind
+
+
+def reached_plainly(kitchen, behind, row):
+    """The numbers of the limits that are reached in a beginning, by what is behind all of them."""
+    found = set()
+    for at, (trace, name, place, level) in enumerate(kitchen.limits):
+        leads = any(start == place for start, _, _ in kitchen.work.step(name).arrows)
+        if name in row and leads and behind[row[:row.index(name)]].get((trace, place), 0) >= level:
+            found.add(at)
+    return found
+
+
+def level_left(kitchen, trace, way):
+    """The level of the trace at first at the first place of the way, less the losses of its arrows."""
+    places = [way[0], *[place for _, place in way[1:]]]
+    level = sum(level for other, place, level in kitchen.traces if (other, place) == (trace, way[0]))
+    return level - sum(kitchen.work.step(name).loss(start, end) for (name, end), start in zip(way[1:], places))
+
+
 def all_ways(work):
     """All ways of the work from the places that are touched, and one from a place that is not."""
     ways = [(place,) for place in (*work.places, "moon")]
