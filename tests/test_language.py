@@ -31,6 +31,18 @@ INTERFACE = {
         "order_of": ("work", "way", "last=None"),
     },
     "reasons": {"reason": ("work", "way", "last=None"), "reason_holds": ("work", "way", "last", "value")},
+    "together": {name: ("work", "several") for name in ("together", "order_of_all", "first_row")},
+    "reaching": {
+        "worst": ("kitchen", "trace", "step", "place"), "worst_way": ("kitchen", "trace", "step", "place"),
+        "harms": ("kitchen",), "harmful_ways": ("kitchen", "at"),
+    },
+    "meeting": {name: ("kitchen", "one", "other") for name in ("meets", "meeting")},
+    "papers": {"paper": ("kitchen", "at"), "paper_holds": ("kitchen", "at", "value")},
+    "washing": {"least_washings": ("kitchen", "places")},
+    "fencing": {"is_fenced": ("kitchen", "pairs"), "least_fences": ("kitchen",)},
+    "clean": {
+        "many_clean": ("kitchen",), "clean_order": ("kitchen",), "clean_next": ("kitchen", "beginning"), "surely": ("kitchen",),
+    },
 }
 METHODS = {
     ("steps", "Step"): {
