@@ -3,6 +3,7 @@
 from itertools import combinations, permutations
 
 from plateways.errors import InvalidWork
+from plateways.numbering import Orders
 from plateways.reaching import harms
 
 
@@ -17,11 +18,19 @@ def is_fenced(kitchen, pairs):
 
 def least_fences(kitchen):
     """All least sets of at most two fences with which no limit is reached in any order."""
-    if is_fenced(kitchen, ()):
+    if not harms(kitchen):
         return ((),)
-    names = sorted(kitchen.work.names)
-    pairs = list(permutations(names, 2))
-    enough = [pair for pair in pairs if is_fenced(kitchen, (pair,))]
+    orders = Orders(kitchen.work)
+    harmful = orders.whole() ^ orders.clean(kitchen)
+    # What a set of fences leaves are just the orders that each of them leaves, so no work is fenced to find it out.
+    lots = orders.by_pairs()
+    pairs = list(permutations(sorted(kitchen.work.names), 2))
+    enough = [pair for pair in pairs if is_harmless(lots[pair], harmful)]
     others = [pair for pair in pairs if pair not in enough]
-    twos = [two for two in combinations(others, 2) if is_fenced(kitchen, two)]
+    twos = [two for two in combinations(others, 2) if is_harmless(lots[two[0]] & lots[two[1]], harmful)]
     return tuple([*[(pair,) for pair in enough], *twos])
+
+
+def is_harmless(lot, harmful):
+    """Whether there are orders in the lot, and none of the harmful ones."""
+    return lot != 0 and lot & harmful == 0

@@ -2,10 +2,12 @@
 
 import unittest
 from itertools import combinations, permutations
+from time import perf_counter
 
 from examples import cooked_plainly, kitchen_example, orders, plain, reached_plainly, some_kitchens, thick_kitchens
 from plateways.fencing import is_fenced, least_fences
 from plateways.kitchens import Kitchen
+from plateways.reaching import harms
 from plateways.steps import Step
 from plateways.works import Work, many_orders
 
@@ -118,6 +120,58 @@ class LeastTest(unittest.TestCase):
             known = Orders(kitchen)
             self.assertEqual(many_orders(kitchen.work), len(known.rows))
             self.assertEqual(least_fences(kitchen), known.least(kitchen.work.names))
+
+
+class ManyAsksTest(unittest.TestCase):
+    """Least fences are asked for many kitchens, so none of them may take long."""
+
+    def test_more_traces_and_limits(self):
+        found = []
+        for kitchen in thick_kitchens(902, 40):
+            work = kitchen.work
+            spots = [(step.name, place) for step in work.steps for place in step.places]
+            limits = [(trace, *spots[at % len(spots)], level) for at, (trace, level) in enumerate(
+                [("nut", 6), ("egg", 5), ("soy", 4), ("nut", 3), ("egg", 7), ("soy", 2)])]
+            more = [("soy", place, 2 + at) for at, place in enumerate(work.places)]
+            wide = Kitchen(work, [*kitchen.traces, *more], limits)
+            told = least_fences(wide)
+            self.assertEqual(told, Orders(wide).least(work.names), str(wide))
+            found.append(told)
+        self.assertGreater(len([told for told in found if told and told != ((),)]), 5)
+
+    def test_one_step_more(self):
+        found = {0: 0, 1: 0, 2: 0}
+        for kitchen in [*some_kitchens(903, 4, 6), *thick_kitchens(903, 12, 6), *thick_kitchens(905, 12, 6)]:
+            told = least_fences(kitchen)
+            self.assertEqual(told, Orders(kitchen).least(kitchen.work.names), str(kitchen))
+            for lot in told:
+                found[len(lot)] += 1
+        self.assertGreater(min(found.values()), 0)
+
+    def test_limits_by_which_no_set_is_enough(self):
+        lines = [line for line in str(kitchen_example()).split("\n") if not line.startswith(("trace egg", "limit"))]
+        for limit, known in (("nut chop nuts 5", ()), ("nut chop nuts 6", ((),)), ("nut serve plate 5", ((),))):
+            kitchen = kitchen_of(*lines, f"limit {limit}")
+            self.assertEqual(least_fences(kitchen), known)
+            self.assertEqual(Orders(kitchen).least(kitchen.work.names), known)
+
+    def test_how_long_it_takes(self):
+        lines = [line for line in str(kitchen_example()).split("\n") if not line.startswith(("trace egg", "limit"))]
+        dense = [f"{name} at p q r go p p 0, p q 1, q p 2, q q 0, r r 3, p r 0" for name in "abcde"]
+        for kitchen in (kitchen_of(*lines, "limit nut serve plate 3"), kitchen_of(*lines, "limit nut chop nuts 5"),
+                        kitchen_of(*dense, "trace nut p 9", "limit nut a q 8")):
+            # To look at each of the 210 sets by itself takes longer than 150 looks at the kitchen.
+            self.assertLess(least_time(least_fences, kitchen), 40 * least_time(harms, kitchen))
+
+
+def least_time(call, kitchen):
+    """The least time that the call takes, of several."""
+    times = []
+    for _ in range(30):
+        start = perf_counter()
+        call(kitchen)
+        times.append(perf_counter() - start)
+    return min(times)
 
 
 if __name__ == "__main__":
