@@ -3,6 +3,7 @@
 import random
 from itertools import permutations
 
+from plateways.books import Book
 from plateways.errors import InvalidText, NoStep
 from plateways.kitchens import Kitchen
 from plateways.steps import Step
@@ -19,6 +20,7 @@ LINES = (
 )
 
 KITCHEN_LINES = (*LINES, "trace egg bowl 2", "trace nut nuts 5", "limit nut serve plate 3")
+BOOK_LINES = ("work", *LINES[:2], LINES[5], "work", *LINES[2:5], "ahead wash cut", LINES[6], *KITCHEN_LINES[8:])
 WAY = ("nuts", ("chop", "board"), ("cut", "plate"))
 
 
@@ -28,6 +30,20 @@ def example():
 
 def kitchen_example():
     return Kitchen.read("\n".join(KITCHEN_LINES))
+
+
+def book_example():
+    return Book.read("\n".join(BOOK_LINES))
+
+
+def strict_book():
+    """The book of the example in which the box of the nuts is touched when the bread is cut."""
+    return Book.read(str(book_example()).replace("cut at board plate", "cut at board nuts plate"))
+
+
+def thin_book():
+    """The book of the example in which too little of the nuts comes along with the bread."""
+    return Book.read(str(book_example()).replace("board plate 1", "board plate 3"))
 
 
 def fenced_example():
@@ -54,12 +70,14 @@ def any_values():
         0, 1, -1, 5, 10 ** 18, True, False, None,
         "", "a", "cut", "board", "Cut", "c t", "cut\n", "at", "go", "ahead", "trace", "limit", "work",
         "toolong", "caf\u00e9", "\u0430", "a1", "_",
-        step, Work([step]), Kitchen(Work([step])), InvalidText(0), NoStep("cut"),
+        step, Work([step]), Kitchen(Work([step])), Book([Work([step])]), InvalidText(0), NoStep("cut"),
         (), [], ("cut",), ["cut"], ("cut", "board"), ["cut", "board"], ("cut", "cut"),
         ("board", "board", 0), ["board", "board", 0], [("board", "board", 0)], (("board", "board", True),),
         [("cut", "wash")], (("cut", "wash", "chop"),), [["cut", "wash"]], [step], (step, step), [None], (0,), ([],),
         [[("cut",)]], nested(8), [nested(7)], ("board", ("cut", "board")), ("board", ["cut", "board"]), ("Board",),
         (("cut", "cut", "join", (0, 0)),), (("cut", "wash", "work", ()),), (("cut", "cut", "work", [[()]]),),
+        (0, "cut"), ((0, "cut"),), [(0, "cut")], [(True, "cut")], [[0, "cut"]], ((1, "cut"),), (0, ("cut",)), (True, ("cut",)),
+        (("board", (), 3),), [("board", ((0, ("cut",)),), 3)], (("board", ((0, ["cut"]),), 3),), (("board", ((False, ("cut",)),), 3),),
         [("nut", "board", 3)], [("nut", "cut", "board", 3)], (("nut", "board", 0),), (("nut", "cut", "board", True),),
     ]
 
@@ -137,6 +155,28 @@ def thick_step(chance, name, places):
     for _ in range(chance.randint(1, 2)):
         arrows[chance.choice(touched), chance.choice(touched)] = chance.choice((0, 0, 1, 2))
     return Step(name, touched, [(start, end, less) for (start, end), less in arrows.items()])
+
+
+def some_books(seed, many, most_works=3, most_steps=3):
+    """Books of a few recipes over a few places, with a few traces and limits."""
+    chance = random.Random(seed)
+    for _ in range(many):
+        places = ["pan", "pot", "dish", "sink"][:chance.randint(2, 4)]
+        names = list("abcdefghijklmno")
+        chance.shuffle(names)
+        works = []
+        for _ in range(chance.randint(1, most_works)):
+            steps = [thick_step(chance, names.pop(), places) for _ in range(chance.randint(1, most_steps))]
+            told = [step.name for step in steps]
+            rank = chance.sample(told, len(told))
+            pairs = chance.randint(0, 2 * len(told) - 2)
+            works.append(Work(steps, [tuple(sorted(chance.sample(told, 2), key=rank.index)) for _ in range(pairs)]))
+        levels = {(trace, chance.choice(places)): chance.randint(1, 5) for trace in ("nut", "nut", "egg")[:chance.randint(0, 3)]}
+        limits = []
+        for _ in range(chance.randint(0, 3)):
+            step = chance.choice([step for work in works for step in work.steps])
+            limits.append((chance.choice(("nut", "nut", "egg")), step.name, chance.choice(step.places), chance.randint(1, 4)))
+        yield Book(works, [(trace, place, level) for (trace, place), level in levels.items()], limits)
 
 
 def done_plainly(step, now):

@@ -43,6 +43,9 @@ INTERFACE = {
     "clean": {
         "many_clean": ("kitchen",), "clean_order": ("kitchen",), "clean_next": ("kitchen", "beginning"), "surely": ("kitchen",),
     },
+    "logs": {name: ("kitchen", "log", "at") for name in ("status", "settling", "questions")},
+    "comparing": {name: ("p", "q") for name in ("never_worse", "worse", "alike")},
+    "books": {"Book": ("works", "traces=()", "limits=()")},
 }
 METHODS = {
     ("steps", "Step"): {
@@ -55,6 +58,7 @@ METHODS = {
     ("kitchens", "Kitchen"): {
         "with_work": ("self", "work"), "read": ("text",), "__eq__": None, "__str__": None,
     },
+    ("books", "Book"): {"read": ("text",), "__eq__": None, "__str__": None},
 }
 
 STATEMENTS = (ast.Global, ast.AsyncFunctionDef, ast.AsyncFor, ast.AsyncWith, ast.TryStar)
