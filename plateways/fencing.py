@@ -21,7 +21,7 @@ def least_fences(kitchen):
     if not harms(kitchen):
         return ((),)
     orders = Orders(kitchen.work)
-    harmful = orders.whole() ^ orders.clean(kitchen)
+    harmful = orders.whole() ^ orders.clean(kitchen, kitchen.limits)
     # What a set of fences leaves are just the orders that each of them leaves, so no work is fenced to find it out.
     lots = orders.by_pairs()
     pairs = list(permutations(sorted(kitchen.work.names), 2))

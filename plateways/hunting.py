@@ -4,6 +4,7 @@ What is done is told as bits, as in the attribute heads of a work.
 """
 
 from plateways.leasts import least_levels
+from plateways.steps import leads_from
 from plateways.works import can_be_next
 
 
@@ -40,8 +41,8 @@ class Hunt:
     def is_reached(self, place, dones):
         """Whether the limit is reached next, if its grain is at the place and one of these is done."""
         at = self.work.names.index(self.last)
-        starts = [arrow[0] for arrow in self.work.steps[at].arrows]
-        return place == self.place and place in starts and len(dones_behind(self.work, dones, at)) > 0
+        leads = place == self.place and leads_from(self.work.steps[at], place)
+        return leads and len(dones_behind(self.work, dones, at)) > 0
 
     def is_enough(self, place, level, done):
         """Whether the limit is reached yet in some order by a grain of this level."""

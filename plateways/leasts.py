@@ -3,6 +3,7 @@
 What is done is told as bits, as in the attribute heads of a work.
 """
 
+from plateways.steps import leads_from
 from plateways.works import all_done, can_be_next
 
 
@@ -22,8 +23,8 @@ def least_levels(work, limits):
 
 def least_ahead(step, limits, behind):
     """The least levels ahead of the step, if these are the ones behind it."""
-    starts = [arrow[0] for arrow in step.arrows]
-    found = [((trace, place), level) for trace, name, place, level in limits if name == step.name and place in starts]
+    found = [((trace, place), level) for trace, name, place, level in limits
+             if name == step.name and leads_from(step, place)]
     for (trace, place), level in behind.items():
         if place not in step.places:
             found.append(((trace, place), level))

@@ -7,7 +7,7 @@ from itertools import combinations
 
 from plateways.basics import is_pair_of, is_sequence
 from plateways.errors import InvalidRow
-from plateways.kitchens import Kitchen, limit_of
+from plateways.kitchens import limit_of
 from plateways.numbering import Orders
 
 
@@ -19,7 +19,7 @@ class Inquiry:
         lots = orders.by_pairs()
         self.start = lot_left(orders.whole(), lots, kitchen.work.names, log)
         limit = limit_of(kitchen.limits, at)
-        self.harmful = orders.whole() ^ orders.clean(Kitchen(kitchen.work, kitchen.traces, [limit]))
+        self.harmful = orders.whole() ^ orders.clean(kitchen, [limit])
         pairs = list(combinations(sorted(kitchen.work.names), 2))
         self.answers = [(pair, lots[pair], lots[pair[1], pair[0]]) for pair in pairs]
         self.known = {}

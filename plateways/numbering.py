@@ -47,9 +47,9 @@ class Orders:
                     lots[names[at], other] = lots[names[at], other] | lot
         return lots
 
-    def clean(self, kitchen):
-        """The lot of the clean orders of a kitchen with this work."""
-        start, paths = paths_behind(kitchen, ())
+    def clean(self, kitchen, limits):
+        """The lot of the orders of a kitchen with this work in which none of these limits is reached."""
+        start, paths = paths_behind(kitchen, limits, ())
         lots = {}
         for state in reversed(list(paths)):
             done = state[0]

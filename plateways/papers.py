@@ -9,6 +9,7 @@ from plateways.hunting import dones_behind, waiting
 from plateways.kitchens import limit_of
 from plateways.reaching import harms
 from plateways.reasons import reason, reason_holds
+from plateways.steps import leads_from
 
 
 def paper(kitchen, at):
@@ -94,6 +95,5 @@ def level_of(kitchen, limit, way):
 
 def can_reach(work, limit, way):
     """Whether the limit's step is none of the way's, and leads on from its end, which is the limit's place."""
-    place = places_of(way)[-1]
-    starts = [arrow[0] for arrow in work.step(limit[1]).arrows]
-    return limit[1] not in row_of(way, None) and place == limit[2] and place in starts
+    at_place = limit[1] not in row_of(way, None) and places_of(way)[-1] == limit[2]
+    return at_place and leads_from(work.step(limit[1]), limit[2])

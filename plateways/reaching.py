@@ -7,6 +7,7 @@ from plateways.cooking import levels_at_first, levels_behind
 from plateways.errors import NoPlace
 from plateways.hunting import Hunt
 from plateways.kitchens import limit_of
+from plateways.steps import leads_from
 from plateways.works import all_done, can_be_next, has
 
 
@@ -75,8 +76,7 @@ def most_ahead(work, most, trace, name, place):
 def is_reached(work, most, limit):
     """Whether the limit is reached in some order."""
     trace, name, place, level = limit
-    starts = [arrow[0] for arrow in work.step(name).arrows]
-    return place in starts and most_ahead(work, most, trace, name, place)[0] >= level
+    return leads_from(work.step(name), place) and most_ahead(work, most, trace, name, place)[0] >= level
 
 
 def way_back(work, most, trace, done, place):

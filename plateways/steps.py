@@ -72,6 +72,11 @@ def is_arrow(value, places):
     return value[0] in places and value[1] in places and is_number(value[2])
 
 
+def leads_from(step, place):
+    """Whether the step has an arrow that starts at the place."""
+    return place in [arrow[0] for arrow in step.arrows]
+
+
 def step_told(line):
     """Name, places and arrows as a line tells them, right or wrong; None if it is not of this form."""
     head, mark, tail = line.partition(" go ")

@@ -192,6 +192,17 @@ def done_plainly(step, now):
     return behind
 
 
+def cooked_in_turn(thing, steps):
+    """The levels behind these steps of a kitchen or a book, and the limits that are reached in them, cooked step by step."""
+    now, found = {(trace, place): level for trace, place, level in thing.traces}, set()
+    for step in steps:
+        for at, (trace, name, place, level) in enumerate(thing.limits):
+            if step.name == name and now.get((trace, place), 0) >= level and any(start == place for start, _, _ in step.arrows):
+                found.add(at)
+        now = done_plainly(step, now)
+    return tuple(sorted((*key, level) for key, level in now.items())), tuple(sorted(found))
+
+
 def cooked_plainly(kitchen):
     """The levels behind each beginning of the work, cooked step by step."""
     behind = {(): {(trace, place): level for trace, place, level in kitchen.traces}}

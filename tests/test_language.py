@@ -46,6 +46,13 @@ INTERFACE = {
     "logs": {name: ("kitchen", "log", "at") for name in ("status", "settling", "questions")},
     "comparing": {name: ("p", "q") for name in ("never_worse", "worse", "alike")},
     "books": {"Book": ("works", "traces=()", "limits=()")},
+    "stories": {name: ("book", "story") for name in ("story_levels", "story_reached")},
+    "recipes": {
+        "worst_ever": ("book", "trace", "step", "place"), "story_of": ("book", "trace", "step", "place"), "ever": ("book",),
+        "book_paper": ("book", "at"), "book_paper_holds": ("book", "at", "value"),
+    },
+    "live": {"Live": ("kitchen",)},
+    "desk": {"Desk": ()},
 }
 METHODS = {
     ("steps", "Step"): {
@@ -59,6 +66,12 @@ METHODS = {
         "with_work": ("self", "work"), "read": ("text",), "__eq__": None, "__str__": None,
     },
     ("books", "Book"): {"read": ("text",), "__eq__": None, "__str__": None},
+    ("live", "Live"): {
+        "do": ("self", "name"), "several": ("self", "names"), "add": ("self", "step", "after=()"), "undo": ("self",),
+        "within": ("self", "deed"), "__len__": None, "kitchen": None, "done": None, "levels": None, "reached": None,
+        "clean_next": None,
+    },
+    ("desk", "Desk"): {"say": ("self", "command")},
 }
 
 STATEMENTS = (ast.Global, ast.AsyncFunctionDef, ast.AsyncFor, ast.AsyncWith, ast.TryStar)
@@ -183,7 +196,9 @@ class RulesTest(unittest.TestCase):
             imported = {part.name for node in ast.walk(tree) if isinstance(node, ast.ImportFrom) for part in node.names}
             classes = {node.name for node in ast.walk(tree) if isinstance(node, ast.ClassDef)}
             for word in bound_names(tree):
-                self.assertFalse(hasattr(builtins, word), f"{path.name}: {word}")
+                # A test of examples that ran ahead leaves a builtin of this name.
+                if word != "_":
+                    self.assertFalse(hasattr(builtins, word), f"{path.name}: {word}")
                 self.assertNotIn(word, BARRED | imported, path.name)
             for node in ast.walk(tree):
                 if isinstance(node, ast.Name) and isinstance(node.ctx, ast.Store) or isinstance(node, ast.arg):

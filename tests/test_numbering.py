@@ -21,7 +21,7 @@ class NumberingTest(unittest.TestCase):
     def test_the_example(self):
         told = Orders(example())
         self.assertEqual(told.whole(), (1 << 30) - 1)
-        self.assertEqual(bin(told.clean(kitchen_example())).count("1"), 19)
+        self.assertEqual(bin(told.clean(kitchen_example(), kitchen_example().limits)).count("1"), 19)
         self.assertEqual(bin(told.by_pairs()["chop", "toss"]).count("1"), 30)
         self.assertEqual(told.by_pairs()["toss", "chop"], 0)
 
@@ -46,15 +46,16 @@ class NumberingTest(unittest.TestCase):
         for kitchen in [*some_kitchens(62, 40), *thick_kitchens(62, 60), *thick_kitchens(63, 5, 6)]:
             behind = cooked_plainly(kitchen)
             known = lot_of(rows_of(kitchen.work), lambda row: not reached_plainly(kitchen, behind, row))
-            self.assertEqual(Orders(kitchen.work).clean(kitchen), known, str(kitchen))
+            self.assertEqual(Orders(kitchen.work).clean(kitchen, kitchen.limits), known, str(kitchen))
 
     def test_the_same_orders_for_other_limits(self):
         kitchen = kitchen_example()
         told = Orders(kitchen.work)
-        first = told.clean(kitchen)
-        self.assertEqual(told.clean(Kitchen(kitchen.work)), told.whole())
-        self.assertEqual(told.clean(Kitchen(kitchen.work, kitchen.traces, [("nut", "chop", "nuts", 5)])), 0)
-        self.assertEqual(told.clean(kitchen), first)
+        first = told.clean(kitchen, kitchen.limits)
+        self.assertEqual(told.clean(kitchen, []), told.whole())
+        self.assertEqual(told.clean(Kitchen(kitchen.work), kitchen.limits), told.whole())
+        self.assertEqual(told.clean(kitchen, [*kitchen.limits, ("nut", "chop", "nuts", 5)]), 0)
+        self.assertEqual(told.clean(kitchen, kitchen.limits), first)
 
 
 if __name__ == "__main__":
