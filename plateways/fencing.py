@@ -24,7 +24,8 @@ def least_fences(kitchen):
     harmful = orders.whole() ^ orders.clean(kitchen, kitchen.limits)
     # What a set of fences leaves are just the orders that each of them leaves, so no work is fenced to find it out.
     lots = orders.by_pairs()
-    pairs = list(permutations(sorted(kitchen.work.names), 2))
+    names = sorted(kitchen.work.names)
+    pairs = list(permutations(names, 2))
     enough = [pair for pair in pairs if is_harmless(lots[pair], harmful)]
     others = [pair for pair in pairs if pair not in enough]
     twos = [two for two in combinations(others, 2) if is_harmless(lots[two[0]] & lots[two[1]], harmful)]

@@ -20,8 +20,8 @@ class Inquiry:
         self.start = lot_left(orders.whole(), lots, kitchen.work.names, log)
         limit = limit_of(kitchen.limits, at)
         self.harmful = orders.whole() ^ orders.clean(kitchen, [limit])
-        pairs = list(combinations(sorted(kitchen.work.names), 2))
-        self.answers = [(pair, lots[pair], lots[pair[1], pair[0]]) for pair in pairs]
+        names = sorted(kitchen.work.names)
+        self.answers = [(pair, lots[pair], lots[pair[1], pair[0]]) for pair in combinations(names, 2)]
         self.known = {}
 
     def status_of(self, lot):
